@@ -1,0 +1,55 @@
+package tests
+
+import (
+	"math"
+	"slices"
+	"testing"
+
+	"loop.example/g00657/impl"
+)
+
+// farNumbers lie where careless sums and signs overflow.
+var farNumbers = []int64{math.MinInt64, math.MinInt64 + 1, math.MinInt64 / 2, math.MinInt32, math.MaxInt32, math.MaxInt64 / 2, math.MaxInt64 - 1, math.MaxInt64}
+
+// besides tells each number with the ones next to it.
+func besides(list ...int64) []int64 {
+	var out []int64
+	for _, v := range list {
+		out = append(out, v-1, v, v+1)
+	}
+	return out
+}
+
+// filled has n times the number v.
+func filled(n int, v int64) []int64 {
+	return slices.Repeat([]int64{v}, n)
+}
+
+// withAt is a new list in which v stands at the place at.
+func withAt(list []int64, at int, v int64) []int64 {
+	out := slices.Clone(list)
+	out[at] = v
+	return out
+}
+
+// guarded is list with memory behind its end that nobody may touch either.
+func guarded(list []int64) (inside []int64, whole []int64) {
+	whole = append(slices.Clone(list), 77, 78, 79)
+	return whole[:len(list)], whole
+}
+
+// wantInt holds an answer against its code and value; beside a code the value is 0.
+func wantInt(t *testing.T, got impl.IntResult, code int64, value int64, what string, args ...any) {
+	t.Helper()
+	if got != (impl.IntResult{Code: code, Value: value}) {
+		t.Errorf("%s %v: got %+v, want code %d, value %d", what, args, got, code, value)
+	}
+}
+
+// wantCode holds a fault against the code that is asked.
+func wantCode(t *testing.T, got int64, want int64, what string, args ...any) {
+	t.Helper()
+	if got != want {
+		t.Errorf("%s %v: got %d, want %d", what, args, got, want)
+	}
+}
