@@ -53,3 +53,27 @@ func wantCode(t *testing.T, got int64, want int64, what string, args ...any) {
 		t.Errorf("%s %v: got %d, want %d", what, args, got, want)
 	}
 }
+
+// bytesOf has n bytes that differ, by a short rule of its own from the seed.
+func bytesOf(n int, seed uint32) []byte {
+	out := make([]byte, n)
+	for i := range out {
+		seed = seed*1664525 + 1013904223
+		out[i] = byte(seed >> 24)
+	}
+	return out
+}
+
+// guardedBytes is data with memory behind its end that nobody may touch either.
+func guardedBytes(data []byte) (inside []byte, whole []byte) {
+	whole = append(slices.Clone(data), 77, 78, 79)
+	return whole[:len(data)], whole
+}
+
+// wantBytes holds an answer against its code and bytes; beside a code there are none.
+func wantBytes(t *testing.T, got impl.BytesResult, code int64, want []byte, what string, args ...any) {
+	t.Helper()
+	if got.Code != code || !slices.Equal(got.Bytes, want) {
+		t.Errorf("%s %v: got %+v, want code %d, bytes %v", what, args, got, code, want)
+	}
+}
