@@ -2,6 +2,7 @@ package tests
 
 import (
 	"math/rand"
+	"slices"
 	"sync"
 	"testing"
 
@@ -18,6 +19,11 @@ var turnTable = []turnRow{
 	{8, 0, 50, 100}, {8, 1, 152, 297}, {8, 2, 257, 483}, {8, 3, 366, 650},
 	{16, 0, 25, 50}, {16, 1, 76, 150}, {16, 2, 126, 249}, {16, 3, 178, 345},
 	{16, 4, 230, 438}, {16, 5, 283, 526}, {16, 6, 338, 610}, {16, 7, 395, 688},
+}
+
+// rowOf is for turns that there are.
+func rowOf(size int, n int) turnRow {
+	return turnTable[slices.IndexFunc(turnTable, func(r turnRow) bool { return r.size == int64(size) && r.n == int64(n) })]
 }
 
 // noTurns have a size that is none, or a turn that this size has not: the first ones beyond, turns of other sizes, and far ones.

@@ -195,7 +195,7 @@ func TestWhichPairsAreTurned(t *testing.T) {
 	for n, names := range turns {
 		for at, name := range names {
 			mate := n/2 - 1 - at
-			row := turnTable[slices.IndexFunc(turnTable, func(r turnRow) bool { return r.size == int64(n) && r.n == int64(name) })]
+			row := rowOf(n, name)
 			for _, v := range []int64{4096, -4096, 999999, 7} {
 				d := filled(n/2, 0)
 				if at < mate {
