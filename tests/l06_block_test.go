@@ -451,27 +451,27 @@ func TestGatherEdges(t *testing.T) {
 	}
 }
 
-// wantBlockFaults asks ask, which lets in 4, 8 or 16 numbers from -end to end.
-func wantBlockFaults(t *testing.T, ask func([]int64) impl.IntsResult, end int64, what string) {
+// wantBlockFaults asks ask, which lets in 4, 8 or 16 numbers, such as right has, and none such as wrong has.
+func wantBlockFaults(t *testing.T, ask func([]int64) impl.IntsResult, right []int64, wrong []int64, what string) {
 	t.Helper()
 	wantInts(t, ask(nil), impl.ErrMany, nil, what+" of nil")
 	for n := range 70 {
 		if slices.Contains(blockLengths, n) {
 			continue
 		}
-		for _, v := range append([]int64{0, 1, end, -end}, beyond(end)...) {
+		for _, v := range slices.Concat([]int64{0, 1}, right, wrong) {
 			wantInts(t, ask(filled(n, v)), impl.ErrMany, nil, what, n, v)
 		}
 	}
 	for _, n := range blockLengths {
 		for at := range n {
-			for _, v := range beyond(end) {
-				for _, other := range []int64{0, end, -end, v} {
+			for _, v := range wrong {
+				for _, other := range slices.Concat([]int64{0, v}, right) {
 					list := withAt(filled(n, other), at, v)
 					wantInts(t, ask(list), impl.ErrRange, nil, what, list)
 				}
 			}
-			for _, v := range []int64{end, -end, end - 1, 1 - end} {
+			for _, v := range right {
 				if got := ask(withAt(filled(n, 0), at, v)); got.Code != impl.OK || len(got.List) != n {
 					t.Errorf("%s of %d at %d of %d: got %+v", what, v, at, n, got)
 				}
@@ -480,9 +480,14 @@ func wantBlockFaults(t *testing.T, ask func([]int64) impl.IntsResult, end int64,
 	}
 }
 
+// besideEnds are the last numbers that are let in, on both sides of 0.
+func besideEnds(end int64) []int64 {
+	return []int64{end, -end, end - 1, 1 - end}
+}
+
 func TestBlockFaults(t *testing.T) {
-	wantBlockFaults(t, impl.SpreadBlock, blockEnd, "SpreadBlock")
-	wantBlockFaults(t, impl.GatherBlock, coefEnd, "GatherBlock")
+	wantBlockFaults(t, impl.SpreadBlock, besideEnds(blockEnd), beyond(blockEnd), "SpreadBlock")
+	wantBlockFaults(t, impl.GatherBlock, besideEnds(coefEnd), beyond(coefEnd), "GatherBlock")
 }
 
 // wantStay asks with a list behind whose end there is memory, and writes over all of each answer: the list stays as it was.

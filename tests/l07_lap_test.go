@@ -727,18 +727,23 @@ func lapArguments(r *rand.Rand, n int) [][]int64 {
 	}
 }
 
-func TestLapsShareNothing(t *testing.T) {
-	r := rand.New(rand.NewSource(77))
+// wantStayAll asks all lists by wantStay, once and twice, so that the answers of two calls are held against each other as well.
+func wantStayAll(t *testing.T, r *rand.Rand, lists func(*rand.Rand, int) [][]int64, ask func(int64, []int64) [][]int64, what string) {
+	t.Helper()
 	for _, n := range blockLengths {
 		for range 20 {
-			for _, list := range lapArguments(r, n) {
-				once := func(list []int64) [][]int64 { return lapAnswers(int64(n), list) }
+			for _, list := range lists(r, n) {
+				once := func(list []int64) [][]int64 { return ask(int64(n), list) }
 				twice := func(list []int64) [][]int64 { return append(once(list), once(list)...) }
-				wantStay(t, list, once, "laps")
-				wantStay(t, list, twice, "laps twice")
+				wantStay(t, list, once, what)
+				wantStay(t, list, twice, what+" twice")
 			}
 		}
 	}
+}
+
+func TestLapsShareNothing(t *testing.T) {
+	wantStayAll(t, rand.New(rand.NewSource(77)), lapArguments, lapAnswers, "laps")
 }
 
 // TestLapsOfOneList: where all lists of the arguments are the same memory, the answers are as if they were not.
@@ -761,29 +766,37 @@ func TestLapsOfOneList(t *testing.T) {
 	}
 }
 
-// TestLapsHangOnArguments: the same arguments have the same answers, whatever is asked between, in whatever order, and beside it.
-func TestLapsHangOnArguments(t *testing.T) {
-	r := rand.New(rand.NewSource(79))
-	var sizes []int64
-	var lists [][]int64
+// wantHang asks all lists with their own size, 8 and 9: the same arguments have the same answers, whatever is asked between,
+// in whatever order, and beside it.
+func wantHang(t *testing.T, r *rand.Rand, lists func(*rand.Rand, int) [][]int64, ask func(int64, []int64) [][]int64) {
+	t.Helper()
+	type call struct {
+		size int64
+		list []int64
+	}
+	var calls []call
 	var first [][][]int64
 	for _, n := range blockLengths {
-		for _, list := range lapArguments(r, n) {
+		for _, list := range lists(r, n) {
 			for _, size := range []int64{int64(n), 8, 9} {
-				sizes, lists = append(sizes, size), append(lists, list)
-				first = append(first, lapAnswers(size, list))
+				calls = append(calls, call{size, list})
+				first = append(first, ask(size, list))
 			}
 		}
 	}
 	var group sync.WaitGroup
 	for seed := range int64(4) {
 		group.Go(func() {
-			for _, i := range rand.New(rand.NewSource(seed)).Perm(len(lists)) {
-				if got := lapAnswers(sizes[i], lists[i]); !slices.EqualFunc(got, first[i], slices.Equal) {
-					t.Errorf("%d, %v: first %v, then %v", sizes[i], lists[i], first[i], got)
+			for _, i := range rand.New(rand.NewSource(seed)).Perm(len(calls)) {
+				if got := ask(calls[i].size, calls[i].list); !slices.EqualFunc(got, first[i], slices.Equal) {
+					t.Errorf("%v: first %v, then %v", calls[i], first[i], got)
 				}
 			}
 		})
 	}
 	group.Wait()
+}
+
+func TestLapsHangOnArguments(t *testing.T) {
+	wantHang(t, rand.New(rand.NewSource(79)), lapArguments, lapAnswers)
 }
