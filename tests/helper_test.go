@@ -2,7 +2,9 @@ package tests
 
 import (
 	"math"
+	"math/rand"
 	"slices"
+	"sync"
 	"testing"
 
 	"loop.example/g00657/impl"
@@ -76,4 +78,34 @@ func wantBytes(t *testing.T, got impl.BytesResult, code int64, want []byte, what
 	if got.Code != code || !slices.Equal(got.Bytes, want) {
 		t.Errorf("%s %v: got %+v, want code %d, bytes %v", what, args, got, code, want)
 	}
+}
+
+// wantSameAnswers asks all calls, and then again: in other orders, and beside one another. The same arguments have the same answers then;
+// the lists among them are written over, which changes no later ones.
+func wantSameAnswers[C any, A comparable](t *testing.T, calls []C, ask func(C) (A, []impl.IntsResult)) {
+	t.Helper()
+	var first []A
+	var lists [][]impl.IntsResult
+	for _, c := range calls {
+		answers, list := ask(c)
+		first, lists = append(first, answers), append(lists, list)
+	}
+	var group sync.WaitGroup
+	for seed := range int64(4) {
+		group.Go(func() {
+			for _, i := range rand.New(rand.NewSource(seed)).Perm(len(calls)) {
+				answers, list := ask(calls[i])
+				if answers != first[i] {
+					t.Errorf("%v: first %v, then %v", calls[i], first[i], answers)
+				}
+				for j, got := range list {
+					if got.Code != lists[i][j].Code || !slices.Equal(got.List, lists[i][j].List) {
+						t.Errorf("%v: first %v, then %v", calls[i], lists[i][j], got)
+					}
+					clear(got.List[:cap(got.List)])
+				}
+			}
+		})
+	}
+	group.Wait()
 }

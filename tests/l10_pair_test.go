@@ -3,7 +3,6 @@ package tests
 import (
 	"math/rand"
 	"slices"
-	"sync"
 	"testing"
 
 	"loop.example/g00657/impl"
@@ -454,9 +453,9 @@ type pairAnswers struct {
 	others [3]impl.IntResult
 }
 
-func (c pairCall) answers() (pairAnswers, impl.IntsResult) {
+func (c pairCall) answers() (pairAnswers, []impl.IntsResult) {
 	others := [3]impl.IntResult{impl.JoinIndex(c.a, c.b, c.k, c.turned), impl.SideIndex(c.side, c.a, c.k, c.turned), impl.SpreadOf(c.side, c.k, c.turned)}
-	return pairAnswers{impl.SplitIndex(c.a, c.k, c.turned), others}, impl.CellOf(c.side, c.b, c.k, c.turned)
+	return pairAnswers{impl.SplitIndex(c.a, c.k, c.turned), others}, []impl.IntsResult{impl.CellOf(c.side, c.b, c.k, c.turned)}
 }
 
 // pairCalls are right ones and wrong ones.
@@ -475,27 +474,7 @@ func pairCalls() []pairCall {
 	return calls
 }
 
-// TestPairsHangOnArguments: the same arguments have the same answers, whatever is asked between, in whatever order, and beside it;
-// who writes over a cell changes no later one.
+// TestPairsHangOnArguments: whatever is asked between, in whatever order, and beside it.
 func TestPairsHangOnArguments(t *testing.T) {
-	calls := pairCalls()
-	var first []pairAnswers
-	var cells []impl.IntsResult
-	for _, c := range calls {
-		answers, cell := c.answers()
-		first, cells = append(first, answers), append(cells, cell)
-	}
-	var group sync.WaitGroup
-	for seed := range int64(4) {
-		group.Go(func() {
-			for _, i := range rand.New(rand.NewSource(seed)).Perm(len(calls)) {
-				answers, cell := calls[i].answers()
-				if answers != first[i] || cell.Code != cells[i].Code || !slices.Equal(cell.List, cells[i].List) {
-					t.Errorf("%v: first %v and %v, then %v and %v", calls[i], first[i], cells[i], answers, cell)
-				}
-				clear(cell.List[:cap(cell.List)])
-			}
-		})
-	}
-	group.Wait()
+	wantSameAnswers(t, pairCalls(), pairCall.answers)
 }

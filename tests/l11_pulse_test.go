@@ -5,7 +5,6 @@ import (
 	"math/big"
 	"math/rand"
 	"slices"
-	"sync"
 	"testing"
 
 	"loop.example/g00657/impl"
@@ -464,8 +463,8 @@ type pulseAnswers struct {
 	count, index impl.IntResult
 }
 
-func (c pulseCall) answers() (pulseAnswers, [2]impl.IntsResult) {
-	lists := [2]impl.IntsResult{impl.PulsesAt(c.dim, c.k, c.index), impl.NextPulses(c.list, c.k)}
+func (c pulseCall) answers() (pulseAnswers, []impl.IntsResult) {
+	lists := []impl.IntsResult{impl.PulsesAt(c.dim, c.k, c.index), impl.NextPulses(c.list, c.k)}
 	return pulseAnswers{impl.PulsesFault(c.list, c.k), impl.CountPulses(c.dim, c.k), impl.IndexPulses(c.list, c.k)}, lists
 }
 
@@ -483,32 +482,7 @@ func pulseCalls() []pulseCall {
 	return calls
 }
 
-// TestPulsesHangOnArguments: the same arguments have the same answers, whatever is asked between, in whatever order, and beside it;
-// who writes over an answer changes no later one.
+// TestPulsesHangOnArguments: whatever is asked between, in whatever order, and beside it.
 func TestPulsesHangOnArguments(t *testing.T) {
-	calls := pulseCalls()
-	var first []pulseAnswers
-	var lists [][2]impl.IntsResult
-	for _, c := range calls {
-		answers, list := c.answers()
-		first, lists = append(first, answers), append(lists, list)
-	}
-	var group sync.WaitGroup
-	for seed := range int64(4) {
-		group.Go(func() {
-			for _, i := range rand.New(rand.NewSource(seed)).Perm(len(calls)) {
-				answers, list := calls[i].answers()
-				if answers != first[i] {
-					t.Errorf("%v: first %v, then %v", calls[i], first[i], answers)
-				}
-				for j, got := range list {
-					if got.Code != lists[i][j].Code || !slices.Equal(got.List, lists[i][j].List) {
-						t.Errorf("%v: first %v, then %v", calls[i], lists[i][j], got)
-					}
-					clear(got.List[:cap(got.List)])
-				}
-			}
-		})
-	}
-	group.Wait()
+	wantSameAnswers(t, pulseCalls(), pulseCall.answers)
 }
