@@ -285,6 +285,9 @@ func TestFrameExamples(t *testing.T) {
 		// 65 and 1: 64 is below 65. A step of 8388608, and, as there is no rung 51, one of 16777216. 8388608/2, and 8388608, and 1
 		{[]int64{8, 8, 8, 8, -8, -8, -8, -9, 1, 0, 0, 0, 0, 0, 0, 0}, filled(16, 0), slices.Concat(filled(8, 4194304), filled(8, 12582913)),
 			impl.Frame{Number: 2, Size: 16, Rung: 45, Mask: 3, Lows: filled(8, 0), Gains: []int64{0, 0}, Pulses: [][]int64{{2, 0, 0, 0}, {2, 0, 0, 0}}}},
+		// 134217728 and 6291456: 100663296 is below it. Steps of 3145728, and of 12582912, of which the gain is half: no greater one than 1 can be restored. 18874368/4, and 6291456, and 1; 6291456/4, and 6291456, and 1
+		{slices.Concat(filled(8, coefEnd), []int64{6291456}, filled(7, 0)), slices.Concat(filled(8, 15728640), []int64{12582912}, filled(7, 0)), slices.Concat(filled(8, 1572864), filled(4, 11010049), filled(4, 7864321)),
+			impl.Frame{Number: 9, Size: 16, Rung: 42, Mask: 2, Lows: filled(8, 5), Gains: []int64{1, 0}, Pulses: [][]int64{{4, 0, 0, 0}, {4, 0, 0, 0}}}},
 	}
 	for _, r := range rows {
 		got := impl.MakeFrame(r.frame.Size, r.frame.Number, r.coefs, r.frame.Rung, r.frame.Spread)
@@ -450,7 +453,7 @@ func TestLowIndicesAtTheirEnds(t *testing.T) {
 }
 
 // TestGainsAtTheirEnds is so for gains, by the rung and the mask: there is none below 0, and the first ones beyond are told in the frame and in what it is made of.
-// Low coefficients that leave a mask of 2 or more to norms that are so great would be beyond MaxCoef, or have indices beyond MaxIndex.
+// Low coefficients that leave a mask of 2 or more to the greatest norms of the last gains would be beyond MaxCoef, or have indices beyond MaxIndex.
 func TestGainsAtTheirEnds(t *testing.T) {
 	r := rand.New(rand.NewSource(144))
 	made := map[int64]int{}
